@@ -8,6 +8,7 @@ import (
 	"manciple/book"
 	"manciple/conf"
 	"manciple/reason"
+	"manciple/samples"
 	"manciple/vec"
 )
 
@@ -205,46 +206,13 @@ func TestReply(t *testing.T) {
 	}
 }
 
-// source is a source of numbers that are always the same.
-type source uint64
-
-func (s *source) below(n uint64) int64 {
-	*s = *s*6364136223846793005 + 1442695040888963407
-	return int64(uint64(*s) >> 33 % n)
-}
-
-func (s *source) vec() []api.Part {
-	var l []api.Part
-	for range s.below(3) + 1 {
-		l = append(l, api.Part{Kind: int(s.below(2)), Role: int(s.below(3)), Amount: 1 + s.below(9)})
-	}
-	v, _ := vec.Of(l)
-	return v
-}
-
-// call returns a call most of whose numbers are small, so that many are accepted.
-func (s *source) call() api.Call {
-	c := api.Call{Kind: int(s.below(17)), Frame: 1 + s.below(4), Agent: 1 + s.below(3), ID: 1 + s.below(6), Role: 1 + int(s.below(2)), Weight: 2, Time: s.below(3), Vec: s.vec()}
-	for range s.below(3) {
-		c.IDs = append(c.IDs, 1+s.below(30))
-	}
-	for range s.below(3) {
-		c.Ops = append(c.Ops, api.Op{Kind: 1 + int(s.below(3)), ID: 1 + s.below(6), Vec: s.vec()})
-	}
-	return c
-}
-
 // P21.3 and P21.4, on many calls
 func TestMany(t *testing.T) {
-	for seed := range source(20) {
+	for seed := range samples.Source(30) {
 		s := seed
-		b, _ := conf.Start(api.Config{Horizon: 60, Most: 60, IDs: 300, Life: int64(seed) % 3, Cap: 6, Min: [4]int64{int64(seed) % 4}})
-		for i := range 200 {
-			c := s.call()
-			if len(b.Offers) > 0 && i%2 == 0 {
-				o := b.Offers[s.below(uint64(len(b.Offers)))]
-				c.Frame, c.IDs = o.Frame, []int64{o.ID}
-			}
+		b, _ := conf.Start(s.Config())
+		for range 200 {
+			c := s.Call(b)
 			after, r := Reply(b, c)
 			right(t, after)
 			if (r.Code == api.OK) != (len(reason.First(b, c)) == 0) || r.Code != api.OK && !book.Same(b, after) {
