@@ -66,7 +66,7 @@ func register(agent int64, s string) api.Call {
 
 type errs = []api.Errno
 
-// check holds all that First and All tell against what is wanted.
+// check holds all that First and All tell against what is wanted; so all reasons are of one class (P18.3).
 func check(t *testing.T, name string, b api.Book, c api.Call, want errs) {
 	t.Helper()
 	if rule, ok := book.Right(b); !ok {

@@ -1,6 +1,7 @@
 package session
 
 import (
+	"math"
 	"slices"
 	"testing"
 
@@ -124,7 +125,7 @@ func model(queues map[int64]*open, before, after api.Book, events []api.Event) {
 	}
 }
 
-// P29.1, P29.2, P29.3 and P29.5; M1 and M2: many calls, each reply of which is admissible.
+// P29.1, P29.2, P29.3 and P29.5; P18.3; M1 and M2: many calls, each reply of which is admissible.
 func TestMany(t *testing.T) {
 	for seed := range samples.Source(60) {
 		source := seed
@@ -160,6 +161,40 @@ func TestMany(t *testing.T) {
 				check(t, s, queues)
 			}
 		}
+	}
+}
+
+// P29.5 and M1: calls of any numbers whatsoever
+func TestAnyNumbers(t *testing.T) {
+	numbers := []int64{0, 1, 2, -1, api.Top, api.Top + 1, math.MaxInt64, math.MinInt64, 33}
+	source := samples.Source(9)
+	number := func() int64 { return numbers[source.Below(len(numbers))] }
+	some := func() []api.Part {
+		var l []api.Part
+		for range source.Below(3) {
+			l = append(l, api.Part{Kind: int(number()), Role: int(number()), Amount: number()})
+		}
+		return l
+	}
+	s := start(t, api.Config{Horizon: api.Top, Most: api.Top, IDs: api.Top, Life: api.Top, Cap: 4096})
+	done := 0
+	for range 20000 {
+		c := api.Call{Kind: source.Below(18) - 1, Frame: number(), Agent: number(), ID: number(), Role: int(number()), Weight: number(), Time: number(), Vec: some()}
+		for range source.Below(3) {
+			c.IDs = append(c.IDs, number())
+			c.Ops = append(c.Ops, api.Op{Kind: int(number()), ID: number(), Vec: some()})
+		}
+		before := s.Book()
+		r := s.Do(c)
+		if b, ok := machine.Step(before, c, r); !ok || !book.Same(b, s.Book()) {
+			t.Fatal("not admissible", c, r)
+		}
+		if r.Code == api.OK {
+			done++
+		}
+	}
+	if rule, ok := book.Right(s.Book()); !ok || done < 100 {
+		t.Error(rule, done)
 	}
 }
 
