@@ -36,7 +36,7 @@ func expect(t *testing.T, ta *Table, id int64, total, free string) {
 
 // P22.1
 func TestNewRegisterLose(t *testing.T) {
-	if New(0, 1) != nil || New(-1, 1) != nil || New(1, 0) != nil || New(1, -1) != nil || New(1, api.Top+1) != nil || New(1, api.Top) == nil {
+	if New(0, 1) != nil || New(-1, 1) != nil || New(1, 0) != nil || New(1, -1) != nil || New(1, api.Top+1) != nil || New(1, api.Top) == nil || New(1, 1) == nil {
 		t.Error("New")
 	}
 	ta := New(2, 5000)

@@ -180,7 +180,11 @@ func TestLimitsHold(t *testing.T) {
 		func(b *api.Book) {
 			b.Frames = append(b.Frames, api.Frame{ID: api.Top, Role: 32, Weight: 1000, Up: true, Time: api.Top})
 		},
-		func(b *api.Book) { b.Config.Cap = 3 },
+		func(b *api.Book) {
+			b.Config.Cap = 3
+			b.Agents = append(b.Agents, api.Agent{ID: 5, Total: v("gpus:1"), Free: v("gpus:0.5")})
+			b.Tasks = append(b.Tasks, api.Task{Frame: 7, ID: 1, Agent: 5, Vec: v("gpus:0.5")})
+		},
 		func(b *api.Book) { b.Config.Life, b.Offers[0].Until, b.Offers[1].Until = 0, 0, 0 },
 	} {
 		b := sample()
@@ -285,6 +289,7 @@ func TestSums(t *testing.T) {
 	if !role.Holds(one) || !role.Holds(three) || !total.Holds(role) {
 		t.Error("Holds")
 	}
+	b.Frames[0].Role, b.Frames[2].Role = 5, 2
 	if !slices.Equal(Roles(b), []int{2, 5}) || len(Roles(api.Book{})) > 0 {
 		t.Error("Roles", Roles(b))
 	}

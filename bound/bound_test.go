@@ -203,6 +203,36 @@ func TestFloorTooGreat(t *testing.T) {
 	}
 }
 
+// P36.3: deltas whose denominators are great
+func TestUnderGreat(t *testing.T) {
+	for seed := range samples.Source(100) {
+		s := seed
+		p := drive.Profile{Agents: [][]api.Part{nil}}
+		for kind := range 4 {
+			p.Agents[0] = append(p.Agents[0], api.Part{Kind: kind, Amount: 1<<52 + int64(s.Below(1<<30))<<20 + int64(s.Below(1<<20))})
+		}
+		for i := range 4 {
+			p.Wants = append(p.Wants, drive.Want{Weight: int64(1 + s.Below(3)), Need: []api.Part{{Kind: i, Amount: 1<<44 + int64(s.Below(1<<30))<<16}}})
+		}
+		rest, weights := slack(p)
+		for i, w := range p.Wants {
+			d, _ := Delta(sums.Of(w.Need), sums.Of(p.Agents[0]))
+			bound := new(big.Rat).Mul(rest, big.NewRat(w.Weight, 1))
+			bound.Quo(bound, weights)
+			least := new(big.Rat).Quo(bound, big.NewRat(d.Num, d.Den))
+			n := new(big.Int).Quo(least.Num(), least.Denom()).Int64()
+			for tasks := n - 1; tasks <= n+1; tasks++ {
+				r := result(4096, 4096, 4096, 4096)
+				r.Tasks[i][0] = tasks
+				has := new(big.Rat).Mul(big.NewRat(d.Num, d.Den), big.NewRat(tasks, 1))
+				if got := Under(p, r); slices.Contains(got, i) != (has.Cmp(bound) <= 0) {
+					t.Fatal(p, i, tasks, got)
+				}
+			}
+		}
+	}
+}
+
 // profile returns a small single-agent profile.
 func profile(s *samples.Source) drive.Profile {
 	vector := func(least, n int) []api.Part {

@@ -88,6 +88,7 @@ func TestRegister(t *testing.T) {
 		b.Agents = append(b.Agents, api.Agent{ID: 5, Total: v("gpus:5"), Free: v("gpus:5")})
 	}, ev(api.EvRegistered, 0, 0, 5, "gpus:5"))
 	check(t, "again", api.Call{Kind: api.Register, Agent: 4, Vec: v("cpus:10,disk(5):6")}, func(b *api.Book) {})
+	check(t, "the first one again", api.Call{Kind: api.Register, Agent: 2, Vec: v("cpus:9,cpus(2):4,mem:20")}, func(b *api.Book) {})
 }
 
 // P19.1 and P19.3
@@ -106,6 +107,9 @@ func TestSubscribe(t *testing.T) {
 	check(t, "back", api.Call{Kind: api.Subscribe, Frame: 3, Role: 2, Weight: 3, Time: 6}, func(b *api.Book) {
 		b.Frames[1] = api.Frame{ID: 3, Role: 2, Weight: 3, Up: true, Time: 6}
 	}, ev(api.EvSubscribed, 3, 0, 0, "-"))
+	check(t, "the first one", api.Call{Kind: api.Subscribe, Frame: 1, Role: 2, Weight: 3, Time: 6}, func(b *api.Book) {
+		b.Frames[0].Time = 6
+	}, ev(api.EvSubscribed, 1, 0, 0, "-"))
 	check(t, "up and quiet", api.Call{Kind: api.Subscribe, Frame: 7, Role: 5, Weight: 1, Time: 6}, func(b *api.Book) {
 		b.Frames[2].Time = 6
 	}, ev(api.EvSubscribed, 7, 0, 0, "-"))
@@ -237,6 +241,34 @@ func TestDue(t *testing.T) {
 		if got := Due(b, now); !slices.Equal(got, want) {
 			t.Error(now, got)
 		}
+	}
+}
+
+// P19.2: many that are due at once
+func TestDueAtOnce(t *testing.T) {
+	var b api.Book
+	var want []Fall
+	for id := int64(1); id <= 40; id++ {
+		b.Offers = append(b.Offers, api.Offer{ID: id * 7 % 41, Until: 5})
+		b.Frames = append(b.Frames, api.Frame{ID: id * 11 % 41, Until: 5})
+		want = append(want, Fall{5, false, id})
+	}
+	for id := int64(1); id <= 40; id++ {
+		want = append(want, Fall{5, true, id})
+	}
+	if got := Due(b, 5); !slices.Equal(got, want) {
+		t.Error(got)
+	}
+}
+
+// P19.1: tasks that have the Frame or the ID of the one that ends go on.
+func TestOtherTasksGoOn(t *testing.T) {
+	b := sample()
+	b.Agents[0].Free = v("mem:8")
+	b.Tasks = []api.Task{b.Tasks[0], {Frame: 1, ID: 9, Agent: 2, Vec: v("cpus:0.5")}, b.Tasks[1], {Frame: 3, ID: 8, Agent: 2, Vec: v("cpus:0.5")}}
+	got, l, ok := Do(b, api.Call{Kind: api.Finish, Frame: 1, ID: 8})
+	if rule, is := book.Right(b); !ok || !is || len(l) != 1 || len(got.Tasks) != 3 || book.Task(got, 1, 8) >= 0 {
+		t.Error(got, l, ok, rule)
 	}
 }
 

@@ -63,7 +63,7 @@ func some() []api.Filter {
 
 // P26.1 and P26.3
 func TestPut(t *testing.T) {
-	if New(0) != nil || New(-1) != nil || New(math.MinInt) != nil || New(math.MaxInt) == nil {
+	if New(0) != nil || New(-1) != nil || New(math.MinInt) != nil || New(math.MaxInt) == nil || New(1) == nil {
 		t.Error("New")
 	}
 	ta := New(8)

@@ -82,6 +82,11 @@ func TestDisconnectQuiet(t *testing.T) {
 	}
 	away := api.Frame{ID: 1, Role: 2, Weight: 3, Time: api.Top, Until: 2 * api.Top}
 	expect(t, ta, 1, away)
+	subscribe(t, ta, 8, 9, 1, 0, true, api.OK)
+	if err := ta.Disconnect(8, 0); err != api.OK {
+		t.Error(err)
+	}
+	expect(t, ta, 8, api.Frame{ID: 8, Role: 9, Weight: 1})
 	if ta.Quiet(2, true) != api.ErrNone || ta.Quiet(1, true) != api.OK {
 		t.Error("Quiet")
 	}

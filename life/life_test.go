@@ -55,6 +55,7 @@ func TestCheck(t *testing.T) {
 		{"comes back", true, []api.Event{agent(api.EvLeft, 2), agent(api.EvRegistered, 2)}},
 		{"leaves twice", false, []api.Event{agent(api.EvLeft, 2), agent(api.EvLeft, 2)}},
 		{"leaves with much", false, []api.Event{agent(api.EvLeft, 1)}},
+		{"leaves with an offer and a task", false, []api.Event{ev(api.EvTaskLost, 1, 7, 1, "cpus:1"), agent(api.EvLeft, 1)}},
 		{"leaves with tasks", false, []api.Event{ev(api.EvLost, 1, 3, 1, "cpus:1"), agent(api.EvLeft, 1)}},
 		{"leaves with an offer", false, []api.Event{ev(api.EvTaskLost, 1, 7, 1, "cpus:1"), ev(api.EvTaskLost, 2, 7, 1, "cpus:2"), agent(api.EvLeft, 1)}},
 		{"leaves with nothing", true, []api.Event{ev(api.EvLost, 1, 3, 1, "cpus:1"), ev(api.EvTaskLost, 1, 7, 1, "cpus:1"), ev(api.EvTaskLost, 2, 7, 1, "cpus:2"), agent(api.EvLeft, 1)}},
@@ -155,6 +156,13 @@ func TestOfOpenRunning(t *testing.T) {
 		ev(api.EvFinished, 2, 1, 1, "-"), ev(api.EvAccepted, 1, 2, 1, "-"), ev(api.EvReserved, 1, 2, 1, "-"),
 	}
 	if got := Running(l); !slices.Equal(got, [][2]int64{{1, 2}, {1, 1}, {1, 1}}) {
+		t.Error(got)
+	}
+	first := []api.Event{ev(api.EvOffered, 1, 4, 2, "-")}
+	if got := Of(first); !slices.Equal(got, []Life{{4, 1, 2, 0, -1, 0}}) || !slices.Equal(Open(first), []int64{4}) {
+		t.Error(got)
+	}
+	if got := Running([]api.Event{ev(api.EvLaunched, 1, 4, 2, "-")}); !slices.Equal(got, [][2]int64{{1, 4}}) {
 		t.Error(got)
 	}
 	if len(Of(nil))+len(Open(nil))+len(Running(nil)) > 0 {

@@ -140,7 +140,7 @@ func TestStepAll(t *testing.T) {
 	two := []api.Event{offered(1, 4, 2, "mem(2):1"), offered(4, 5, 2, "mem:9"), offered(3, 6, 1, "cpus:60")}
 	right(t, step(t, "agent 1 first", sample(), c, api.Reply{Events: one}, true))
 	right(t, step(t, "agent 2 first", sample(), c, api.Reply{Events: two}, true))
-	between := []api.Event{offered(1, 4, 2, "mem(2):1"), offered(2, 5, 1, "cpus:60"), offered(4, 6, 2, "mem:9")}
+	between := []api.Event{offered(1, 4, 2, "mem(2):1"), offered(2, 5, 1, "cpus:60"), offered(3, 6, 2, "mem:9")}
 	step(t, "agent 2 twice", sample(), c, api.Reply{Events: between}, false)
 	step(t, "agent 1 left", sample(), c, api.Reply{Events: two[:2]}, false)
 	step(t, "agent 2 left", sample(), c, api.Reply{Events: one[:1]}, false)

@@ -133,8 +133,13 @@ func TestRun(t *testing.T) {
 		t.Error(got)
 	}
 	for _, agent := range []int64{3, 9} {
-		if got, l := Run(b, agent); len(l) > 0 || !book.Same(got, b) {
+		got, l := Run(b, agent)
+		if len(l) > 0 || !book.Same(got, b) {
 			t.Error(agent, l)
+		}
+		got.Agents[0].Free[0].Amount = 1
+		if !book.Same(b, sample()) {
+			t.Error("shared")
 		}
 	}
 	b.Config.IDs = 4

@@ -87,6 +87,16 @@ func TestRun(t *testing.T) {
 	}
 }
 
+// P15.1 and P15.2: the first and the last role
+func TestRoles(t *testing.T) {
+	for _, role := range []int{1, api.MaxRole} {
+		got, err := Run(v(t, "cpus:4"), role, []api.Op{reserve(v(t, "cpus:4"))})
+		if err != api.OK || len(got) != 1 || got[0].Role != role {
+			t.Error(role, got, err)
+		}
+	}
+}
+
 // P15.2 and P15.3: the order of errors
 func TestErrors(t *testing.T) {
 	foreign := launch(v(t, "cpus(3):1"))

@@ -86,6 +86,7 @@ func TestMax(t *testing.T) {
 		{wrong, api.Frac{}, -1},
 		{[]api.Frac{third}, third, 0},
 		{[]api.Frac{third, half, twoQuarters}, half, 1},
+		{[]api.Frac{half, third, twoQuarters}, half, 0},
 		{[]api.Frac{{Num: 9, Den: 0}, third, twoQuarters, half, {Num: 9, Den: -1}}, twoQuarters, 2},
 		{[]api.Frac{{Num: -1, Den: 1}, {Num: 0, Den: 5}}, api.Frac{Num: 0, Den: 5}, 1},
 	} {

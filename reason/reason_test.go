@@ -163,6 +163,7 @@ func TestStanding(t *testing.T) {
 		{"revive", api.Call{Kind: api.Revive, Frame: 3}, errs{api.ErrGone}},
 		{"suppress", api.Call{Kind: api.Suppress, Frame: 3}, errs{api.ErrGone}},
 		{"kill", api.Call{Kind: api.Kill, Frame: 3, ID: 1}, errs{api.ErrGone}},
+		{"kill the first task", api.Call{Kind: api.Kill, Frame: 1, ID: 8}, nil},
 		{"finish", api.Call{Kind: api.Finish, Frame: 3, ID: 1}, nil},
 		{"teardown", api.Call{Kind: api.Teardown, Frame: 3}, nil},
 		{"decline", decline(3, 0, 5), errs{api.ErrGone, api.ErrOwner}},

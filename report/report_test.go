@@ -67,7 +67,11 @@ func TestGap(t *testing.T) {
 	if first, last, ok := Gap(b); first != 7 || last != 5 || !ok {
 		t.Error(first, last, ok)
 	}
-	b.Frames, b.Offers, b.Tasks = b.Frames[:3], nil, nil
+	b.Frames, b.Offers, b.Tasks = b.Frames[:3], b.Offers[:1], nil
+	if first, last, ok := Gap(b); first != 2 || last != 9 || !ok {
+		t.Error("two rows", first, last, ok)
+	}
+	b.Offers = nil
 	if first, last, ok := Gap(b); first != 0 || last != 0 || ok {
 		t.Error("equal shares", first, last, ok)
 	}

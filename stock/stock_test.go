@@ -124,6 +124,17 @@ func TestNew(t *testing.T) {
 	}
 }
 
+// P27.2: the last time
+func TestHorizon(t *testing.T) {
+	s, _ := New(conf.Small())
+	if _, ok := s.Do(api.Call{Kind: api.Tick, Time: 1000}); !ok || s.Book().Now != 1000 {
+		t.Error("up to the horizon")
+	}
+	if _, ok := s.Do(api.Call{Kind: api.Tick, Time: 1}); ok || s.Book().Now != 1000 {
+		t.Error("past the horizon")
+	}
+}
+
 // P27.3: numbers run out.
 func TestNumbersRunOut(t *testing.T) {
 	c := conf.Small()

@@ -35,7 +35,7 @@ func launch(t *testing.T, ta *Table, x api.Task, want api.Errno) {
 
 // P25.1 and P25.4
 func TestLaunchEnd(t *testing.T) {
-	if New(0) != nil || New(-1) != nil || New(math.MinInt) != nil || New(math.MaxInt) == nil {
+	if New(0) != nil || New(-1) != nil || New(math.MinInt) != nil || New(math.MaxInt) == nil || New(1) == nil {
 		t.Error("New")
 	}
 	ta := New(2)
