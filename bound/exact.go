@@ -44,12 +44,12 @@ func (a nat) cmp(b nat) int {
 }
 
 func (a nat) plus(b nat) nat {
-	words := make([]uint64, 0, max(len(a), len(b))+1)
+	words := make([]uint64, max(len(a), len(b))+1)
 	carry := uint64(0)
-	for i := range cap(words) {
+	for i := range words {
 		sum, _ := wide.Of(a.at(i)).Add(wide.Of(b.at(i)))
 		sum, _ = sum.Add(wide.Of(carry))
-		words = append(words, sum.Lo)
+		words[i] = sum.Lo
 		carry = sum.Hi
 	}
 	return trim(words)
@@ -57,12 +57,12 @@ func (a nat) plus(b nat) nat {
 
 // minus returns the difference of a and what is not greater.
 func (a nat) minus(b nat) nat {
-	words := make([]uint64, 0, len(a))
+	words := make([]uint64, len(a))
 	borrow := uint64(0)
-	for i := range a {
+	for i := range words {
 		less, _ := wide.Of(b.at(i)).Add(wide.Of(borrow))
 		rest, fits := wide.Of(a[i]).Sub(less)
-		words = append(words, rest.Lo)
+		words[i] = rest.Lo
 		borrow = 0
 		if !fits {
 			borrow = 1
@@ -72,11 +72,11 @@ func (a nat) minus(b nat) nat {
 }
 
 func (a nat) times(n int64) nat {
-	words := make([]uint64, 0, len(a)+1)
+	words := make([]uint64, len(a)+1)
 	carry := uint64(0)
-	for i := range cap(words) {
+	for i := range words {
 		product, _ := wide.Mul(a.at(i), uint64(n)).Add(wide.Of(carry))
-		words = append(words, product.Lo)
+		words[i] = product.Lo
 		carry = product.Hi
 	}
 	return trim(words)
